@@ -1,0 +1,1 @@
+"""Rulestead: a rule base that survives losses of power."""

@@ -1,0 +1,77 @@
+import ast
+import importlib
+import pathlib
+import unittest
+
+FOLDER = pathlib.Path(__file__).resolve().parent.parent / "rulestead"
+FILES = sorted(FOLDER.rglob("*.py"))
+FUNCTIONS = {
+    "values": ("value_key", "row_key", "same_row", "key_of", "key_order"),
+    "states": ("between",),
+    "bodies": ("ways", "head_row"),
+}
+CLASSES = {
+    "errors": {name: () for name in (
+        "RuleError", "Refused", "Denied", "InvalidArgument", "TransactionOpen", "NoTransaction",
+        "NoSavepoint", "DiskFull", "PowerOff", "DatabaseOpen", "DatabaseClosed", "DamagedData")},
+    "states": {"State": ("all_items", "has", "copy", "change")},
+}
+
+
+class InterfaceTest(unittest.TestCase):
+
+    def test_functions_are_defined_in_their_files(self):
+        for file, names in FUNCTIONS.items():
+            module = importlib.import_module("rulestead." + file)
+            for name in names:
+                self.assertEqual(getattr(module, name).__module__, module.__name__)
+
+    def test_classes_are_defined_in_their_files_with_their_methods(self):
+        for file, classes in CLASSES.items():
+            module = importlib.import_module("rulestead." + file)
+            for name, methods in classes.items():
+                self.assertEqual(getattr(module, name).__module__, module.__name__)
+                for method in methods:
+                    self.assertIn(method, vars(getattr(module, name)))
+
+
+class SubsetTest(unittest.TestCase):
+    """Those rules of the subset of Python that can be seen at a glance."""
+
+    def test_the_folder_holds_python_files_alone(self):
+        for path in FOLDER.rglob("*"):
+            if "__pycache__" not in path.parts and not path.is_dir():
+                self.assertEqual(path.suffix, ".py", path)
+
+    def test_characters_and_lengths(self):
+        self.assertTrue(FILES)
+        for path in FILES:
+            lines = path.read_text(encoding="utf-8").split("\n")
+            self.assertLessEqual(len(lines) - 1, 399, path)
+            for line in lines:
+                self.assertLessEqual(len(line), 120, path)
+                self.assertTrue(all(" " <= character <= "~" for character in line), (path, line))
+
+    def test_functions_are_short(self):
+        for path in FILES:
+            for node in ast.walk(ast.parse(path.read_text())):
+                if isinstance(node, ast.FunctionDef):
+                    self.assertLessEqual(node.end_lineno - node.lineno + 1, 40, (path, node.name))
+
+    def test_imports_are_from_the_package(self):
+        for path in FILES:
+            for node in ast.walk(ast.parse(path.read_text())):
+                self.assertNotIsInstance(node, ast.Import, path)
+                if isinstance(node, ast.ImportFrom):
+                    self.assertEqual(node.level, 0, path)
+                    self.assertTrue(node.module.startswith("rulestead."), (path, node.module))
+
+    def test_strings_have_no_percent_sign(self):
+        for path in FILES:
+            for node in ast.walk(ast.parse(path.read_text())):
+                if isinstance(node, ast.Constant) and isinstance(node.value, str):
+                    self.assertNotIn("%", node.value, path)
+
+
+if __name__ == "__main__":
+    unittest.main()
