@@ -82,9 +82,8 @@ def result_of(operator, first, second):
 
 
 def fact_ways(literal, found, rows):
-    """The ways after a `fact`."""
-    _, relation, terms = literal
-    matcher = Matcher(terms, rows[relation], found[0][0])
+    """The ways after a `fact`, of those before it, with one of these rows."""
+    matcher = Matcher(literal[2], rows, found[0][0])
     return [(matcher.with_row(values, row), taken + (row,))
             for values, taken in found for row in matcher.met(values)]
 
@@ -129,10 +128,8 @@ def meeting_ways(variable, found, results):
     return met
 
 
-def ways_after(literal, found, rows, lookups):
-    """The ways after a literal, of those before it, of which there is at least one."""
-    if literal[0] == "fact":
-        return fact_ways(literal, found, rows)
+def ways_after(literal, found, lookups):
+    """The ways after a literal that is no `fact`, of those before it, of which there is one."""
     if literal[0] == "not":
         return not_ways(literal, found, lookups)
     if literal[0] == "compare":
@@ -142,14 +139,29 @@ def ways_after(literal, found, rows, lookups):
     return count_ways(literal, found, lookups)
 
 
-def ways(body, rows, lookups):
-    """The list of the ways of a body, in the order of the rows of its `fact` literals."""
+def fact_relations(body):
+    """The relation of each `fact` literal of a body, in order."""
+    return [literal[1] for literal in body if literal[0] == "fact"]
+
+
+def chosen_ways(body, choices, lookups):
+    """The list of the ways of a body, where `choices` has a list of rows for each `fact` literal."""
     found = [({}, ())]
+    facts = 0
     for literal in body:
         if not found:
             return []
-        found = ways_after(literal, found, rows, lookups)
+        if literal[0] == "fact":
+            found = fact_ways(literal, found, choices[facts])
+            facts += 1
+        else:
+            found = ways_after(literal, found, lookups)
     return found
+
+
+def ways(body, rows, lookups):
+    """The list of the ways of a body, in the order of the rows of its `fact` literals."""
+    return chosen_ways(body, [rows[relation] for relation in fact_relations(body)], lookups)
 
 
 def head_row(terms, values):

@@ -9,6 +9,10 @@ FUNCTIONS = {
     "values": ("value_key", "row_key", "same_row", "key_of", "key_order"),
     "states": ("between",),
     "bodies": ("ways", "head_row"),
+    "checks": ("check_body", "check_rule", "check_denial", "columns"),
+    "model": ("levels", "model", "heights"),
+    "judge": ("accepts", "is_account", "why"),
+    "denials": ("clash", "is_sound", "least_sets"),
 }
 CLASSES = {
     "errors": {name: () for name in (
@@ -16,6 +20,8 @@ CLASSES = {
         "NoSavepoint", "DiskFull", "PowerOff", "DatabaseOpen", "DatabaseClosed", "DamagedData")},
     "states": {"State": ("all_items", "has", "copy", "change")},
 }
+# What the rules allow of Python's own library.
+LIBRARY = {"itertools": ("product", "combinations", "permutations")}
 
 
 class InterfaceTest(unittest.TestCase):
@@ -64,7 +70,11 @@ class SubsetTest(unittest.TestCase):
                 self.assertNotIsInstance(node, ast.Import, path)
                 if isinstance(node, ast.ImportFrom):
                     self.assertEqual(node.level, 0, path)
-                    self.assertTrue(node.module.startswith("rulestead."), (path, node.module))
+                    names = LIBRARY.get(node.module)
+                    if names is None:
+                        self.assertTrue(node.module.startswith("rulestead."), (path, node.module))
+                    else:
+                        self.assertTrue(all(one.name in names and not one.asname for one in node.names), path)
 
     def test_strings_have_no_percent_sign(self):
         for path in FILES:
