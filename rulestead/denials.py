@@ -1,25 +1,33 @@
 """Denials: where they clash, what is sound, and what could be left out of a change."""
-from itertools import combinations
-from rulestead.bodies import ways
 from rulestead.checks import check_alone, check_body, check_edges
+from rulestead.choices import least_choices
 from rulestead.errors import Refused
+from rulestead.given import bound_rows
 from rulestead.model import model
+from rulestead.parts import names_in, part
 from rulestead.states import between
 from rulestead.values import row_key
 
 MOST_PIECES = 7
 
 
+def clash_in(denials, rows):
+    """None, or the pair of the first denial, by name, that clashes in the rows of a model, and its first row."""
+    for name in sorted(denials):
+        told = bound_rows(denials[name], rows)
+        if told:
+            return (name, min(told, key=row_key))
+    return None
+
+
+def names_in_denials(denials):
+    """The relations that stand in the bodies of denials."""
+    return [name for body in denials.values() for name in names_in(body)]
+
+
 def clash(state):
     """None, or the pair of the first denial, by name, that clashes, and its first row of values."""
-    rows = model(state)
-    for name in sorted(state.denials):
-        body = state.denials[name]
-        bound = check_body(state, body)
-        found = [tuple([way[0][variable] for variable in bound]) for way in ways(body, rows, rows)]
-        if found:
-            return (name, min(found, key=row_key))
-    return None
+    return clash_in(state.denials, model(part(state, names_in_denials(state.denials))))
 
 
 def facts_fit(state):
@@ -57,10 +65,5 @@ def least_sets(first, second):
     pieces = between(first, second)
     if len(pieces) > MOST_PIECES:
         return None
-    found = []
-    for size in range(len(pieces) + 1):
-        for left in combinations(range(len(pieces)), size):
-            beyond = any([all([at in left for at in least]) for least in found])
-            if not beyond and frees(first, pieces, left):
-                found.append(left)
-    return [tuple([pieces[at] for at in least]) for least in found]
+    least = least_choices(len(pieces), lambda left: frees(first, pieces, left))
+    return [tuple([pieces[at] for at in places]) for places in least]

@@ -10,6 +10,15 @@ def binds(literal):
     return []
 
 
+def bound_by(body):
+    """The tuple of the variables that a body binds, in the order in which they are bound."""
+    bound = {}
+    for literal in body:
+        for variable in binds(literal):
+            bound[variable] = True
+    return tuple(bound)
+
+
 def makes(body):
     """True if a variable of the body is made: an `is` binds it that was not bound before."""
     bound = {}
@@ -47,11 +56,17 @@ def reached(edges, start):
     return found
 
 
-def leads(rules):
-    """For each relation of the rules, a dict of True for each relation to which it leads by edges."""
+def all_edges(rules):
+    """The list of the relations to which an edge leads, for each relation of the rules."""
     edges = {}
     for relation, _, body in rules.values():
         edges.setdefault(relation, []).extend([edge[0] for edge in body_edges(body)])
+    return edges
+
+
+def leads(rules):
+    """For each relation of the rules, a dict of True for each relation to which it leads by edges."""
+    edges = all_edges(rules)
     return {relation: reached(edges, relation) for relation in edges}
 
 

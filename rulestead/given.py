@@ -1,5 +1,6 @@
-"""What the rules of a state give in sets of rows."""
+"""What bodies and rules give in sets of rows."""
 from rulestead.bodies import fact_relations, head_row, ways
+from rulestead.edges import bound_by
 
 
 def all_given(rules, rows):
@@ -14,3 +15,9 @@ def all_given(rules, rows):
         for values, taken in ways(body, rows, rows):
             found.append(((relation, head_row(terms, values)), tuple(zip(names, taken)), name))
     return found
+
+
+def bound_rows(body, rows):
+    """The row of the values of the variables that a body binds, for each of its ways."""
+    variables = bound_by(body)
+    return [tuple([way[0][variable] for variable in variables]) for way in ways(body, rows, rows)]

@@ -3,6 +3,7 @@ from rulestead.bodies import chosen_ways, fact_relations, head_row
 from rulestead.checks import widths
 from rulestead.given import all_given
 from rulestead.model import least_heights, model
+from rulestead.parts import part
 from rulestead.values import row_key
 
 
@@ -150,8 +151,9 @@ def account(wanted, reasons):
 
 def why(state, relation, row):
     """The account of a fact, or None if it is not in the model."""
-    given = all_given(state.rules, model(state))
-    known = least_heights(state, given)
+    needed = part(state, [relation])
+    given = all_given(needed.rules, model(needed))
+    known = least_heights(needed, given)
     if (relation, row) not in known:
         return None
     return account((relation, row), first_reasons(given, known))

@@ -13,12 +13,19 @@ FUNCTIONS = {
     "model": ("levels", "model", "heights"),
     "judge": ("accepts", "is_account", "why"),
     "denials": ("clash", "is_sound", "least_sets"),
+    "wishes": ("wish",),
+    "statements": ("say",),
+    "codes": ("write_number", "write_value", "write_row", "write_body", "write_item", "write_change",
+              "write_changes", "write_image"),
 }
 CLASSES = {
     "errors": {name: () for name in (
         "RuleError", "Refused", "Denied", "InvalidArgument", "TransactionOpen", "NoTransaction",
         "NoSavepoint", "DiskFull", "PowerOff", "DatabaseOpen", "DatabaseClosed", "DamagedData")},
     "states": {"State": ("all_items", "has", "copy", "change")},
+    "transactions": {"Words": ("own", "say", "savepoint", "rollback_to", "again")},
+    "codes": {"Reader": ("read_number", "read_value", "read_row", "read_body", "read_item", "read_change",
+                         "read_changes", "read_image", "end")},
 }
 # What the rules allow of Python's own library.
 LIBRARY = {"itertools": ("product", "combinations", "permutations")}
