@@ -25,7 +25,9 @@ def grants(state, denials, fact, wanted, changes):
 def wish(state, relation, row, wanted, candidates):
     """The list of the least sets of candidates that grant the wish, each a tuple of candidates."""
     needed = part(state, [relation] + names_in_denials(state.denials))
-    turns = [turn(state, candidate) for candidate in candidates]
+    # To turn anything else has no effect on the fact or on a denial, so no least set has it.
+    able = [candidate for candidate in candidates if candidate[0] in needed.relations]
+    turns = [turn(state, candidate) for candidate in able]
     least = least_choices(len(turns), lambda chosen: grants(
         needed, state.denials, (relation, row), wanted, [turns[at] for at in chosen]))
-    return [tuple([candidates[place] for place in places]) for places in least]
+    return [tuple([able[place] for place in places]) for places in least]

@@ -9,6 +9,7 @@ from rulestead.errors import DamagedData
 from rulestead.states import State
 from tests import plain, plain_codes
 from tests.chance import ANY, W, X, Y, denial, fact, rule, value
+from tests.things import CHARACTERS, Some
 
 # The end of a name of a write function and of a method of the Reader, and the plain version.
 FORMS = {"number": plain_codes.number, "value": plain_codes.value, "row": plain_codes.row,
@@ -16,7 +17,6 @@ FORMS = {"number": plain_codes.number, "value": plain_codes.value, "row": plain_
          "changes": plain_codes.changes}
 BODY = (fact("b", X, value(-1)), ("not", "b", (ANY, value(""))), ("compare", "<=", X, value("a")),
         ("is", "w", "*", X, Y), ("count", "v", "b", (X, ANY)))
-CHARACTERS = [chr(code) for code in range(32, 127) if code != 37]
 
 
 def write(form, thing):
@@ -28,73 +28,6 @@ def read(form, data):
     reader = Reader(data)
     thing = getattr(reader, "read_" + form)()
     return thing, reader.at
-
-
-class Some:
-    """Things to write, put together by a chooser; also such as no statement makes."""
-
-    def __init__(self, chooser):
-        self.chooser = chooser
-
-    def number(self):
-        bits = self.chooser.choice((0, 1, 7, 8, 14, 15, 50, 100, 419, 420))
-        return self.chooser.choice((0, 1, 127, 128, 2 ** bits - 1, self.chooser.getrandbits(bits or 1)))
-
-    def text(self):
-        return "".join(self.chooser.choice(CHARACTERS) for _ in range(self.chooser.choice((0, 1, 2, 5, 30, 131))))
-
-    def name(self):
-        return self.chooser.choice(("e", "p_1", "relation_012", "x"))
-
-    def value(self):
-        sign = self.chooser.choice((1, 1, -1))
-        return self.text() if self.chooser.random() < 0.5 else sign * self.number()
-
-    def row(self):
-        return tuple(self.value() for _ in range(self.chooser.randrange(6)))
-
-    def term(self):
-        return self.chooser.choice((ANY, ("variable", self.name()), ("value", self.value())))
-
-    def terms(self):
-        return tuple(self.term() for _ in range(self.chooser.randrange(6)))
-
-    def literal(self):
-        form = self.chooser.choice(("fact", "not", "compare", "is", "count"))
-        if form in ("fact", "not"):
-            return form, self.name(), self.terms()
-        if form == "compare":
-            return form, self.chooser.choice(plain_codes.SIGNS), self.term(), self.term()
-        if form == "is":
-            return form, self.name(), self.chooser.choice("+-*"), self.term(), self.term()
-        return form, self.name(), self.name(), self.terms()
-
-    def body(self):
-        return tuple(self.literal() for _ in range(self.chooser.randrange(5)))
-
-    def item(self):
-        sort = self.chooser.choice(("relation", "fact", "fact", "rule", "denial"))
-        if sort == "relation":
-            return sort, self.name(), self.number()
-        if sort == "fact":
-            return sort, self.name(), self.row()
-        if sort == "rule":
-            return sort, self.name(), self.name(), self.terms(), self.body()
-        return sort, self.name(), self.body()
-
-    def change(self):
-        if self.chooser.random() < 0.6:
-            return "comes", self.item()
-        return "goes", (self.chooser.randrange(4), self.name(), self.row())
-
-    def changes(self):
-        return [self.change() for _ in range(self.chooser.randrange(7))]
-
-    def items(self):
-        return [self.item() for _ in range(self.chooser.randrange(13))]
-
-    def thing(self, form):
-        return getattr(self, form)()
 
 
 class CodesCase(unittest.TestCase):
@@ -252,7 +185,8 @@ class ImageTest(CodesCase):
         self.assertEqual(codes.write_image(0, State()), [0, 0])
         self.assertEqual(codes.write_image(300, State([("relation", "e", 1)])), [172, 2, 1, 0, 1, 101, 1])
         self.check_image(0, [])
-        self.check_image(5, [fact("e", 2), denial("d"), ("relation", "e", 1), fact("e", 1), rule("r", "p", (X,), *BODY)])
+        self.check_image(5, [fact("e", 2), denial("d"), ("relation", "e", 1), fact("e", 1),
+                             rule("r", "p", (X,), *BODY)])
         self.check_image(10 ** 40, [fact("none", 1), fact("none")])
 
     def test_items_in_any_order(self):
@@ -267,7 +201,8 @@ class ImageTest(CodesCase):
         self.assertEqual(read("image", data)[0][1].all_items(), items[2:])
 
     def test_images_that_are_damaged(self):
-        for data in ([], [0], [128, 0, 0], [0, 1], [0, 2, 0, 1, 101, 1], [0, 1, 4, 1, 101, 1], [128, 0], [0, 9, 0, 0, 0]):
+        for data in ([], [0], [128, 0, 0], [0, 1], [0, 2, 0, 1, 101, 1], [0, 1, 4, 1, 101, 1], [128, 0],
+                     [0, 9, 0, 0, 0]):
             self.damaged("image", data)
 
     def test_random_images(self):

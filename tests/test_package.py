@@ -17,6 +17,7 @@ FUNCTIONS = {
     "statements": ("say",),
     "codes": ("write_number", "write_value", "write_row", "write_body", "write_item", "write_change",
               "write_changes", "write_image"),
+    "blocks": ("write_block", "read_block", "head", "read_head", "area_size", "area_start", "found"),
 }
 CLASSES = {
     "errors": {name: () for name in (
@@ -26,6 +27,12 @@ CLASSES = {
     "transactions": {"Words": ("own", "say", "savepoint", "rollback_to", "again")},
     "codes": {"Reader": ("read_number", "read_value", "read_row", "read_body", "read_item", "read_change",
                          "read_changes", "read_image", "end")},
+    "disk": {"Disk": ("size", "read", "pending", "counts", "write", "sync", "fail_after", "power", "is_on",
+                      "losses")},
+    "store": {"Store": ("fits", "commit")},
+    "database": {"Database": ("session", "commits", "table", "watch"),
+                 "Session": ("run", "begin", "commit", "rollback", "savepoint", "rollback_to"),
+                 "Watch": ("turn",)},
 }
 # What the rules allow of Python's own library.
 LIBRARY = {"itertools": ("product", "combinations", "permutations")}

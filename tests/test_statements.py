@@ -19,7 +19,8 @@ class StatementCase(unittest.TestCase):
 
     def say(self, items, statement):
         """What is told of a statement and the items after it; the plain version must tell the same."""
-        state, kept = State(items), copy.deepcopy(statement)
+        # Rules and denials are looked at by name, in whatever order they came.
+        state, kept = State(items[::-1]), copy.deepcopy(statement)
         before = parts(state)
         expected, after = plain_statements.say(items, statement)
         try:
@@ -211,7 +212,8 @@ class AskTest(StatementCase):
         self.answers(PATH, ("ask", (fact("b", Y, X), fact("p", X, W))), (("y", "x", "w"), [(1, 2, 3)]))
         self.answers(PATH, ("ask", (("count", "w", "p", (ANY, ANY)), fact("b", X, ANY))),
                      (("w", "x"), [(3, 1), (3, 2)]))
-        self.answers(PATH, ("ask", (fact("b", X, Y), ("is", "w", "+", X, Y))), (("x", "y", "w"), [(1, 2, 3), (2, 3, 5)]))
+        self.answers(PATH, ("ask", (fact("b", X, Y), ("is", "w", "+", X, Y))),
+                     (("x", "y", "w"), [(1, 2, 3), (2, 3, 5)]))
 
     def test_rows_in_order_each_once(self):
         items = BASE + [fact("b", *row) for row in ((1, 10), (2, 9), (3, "1"), (4, 9), (5, ""))]

@@ -117,7 +117,14 @@ class SmallTest(WishCase):
     def test_what_is_elsewhere_has_no_effect(self):
         pairs = [("b", (1, 3)), ("b", (3, 2)), ("b", (1, 2))]
         elsewhere = [("relation", "c", 2), fact("c", 1, 2), rule("t", "q", (X,), fact("c", X, Y), ("not", "a", (X,)))]
-        self.assertEqual(wish(State(PATH + elsewhere), "p", (1, 2), True, pairs), wish(State(PATH), "p", (1, 2), True, pairs))
+        told = self.wish(PATH, "p", (1, 2), True, pairs)
+        self.assertEqual(self.wish(PATH + elsewhere, "p", (1, 2), True, pairs), told)
+        # Candidates that are not reached are in no least set, unless a denial reaches them.
+        more = [("c", (1, 2)), pairs[0], ("c", (2, 2)), pairs[1], ("a", (1,)), pairs[2]]
+        self.assertEqual(self.wish(PATH + elsewhere, "p", (1, 2), True, more), told)
+        denied = denial("d", fact("p", value(1), value(2)), fact("q", X))
+        self.check(PATH + elsewhere + [denied], "p", (1, 2), True, more, [
+            (more[0], pairs[2]), (more[4], pairs[2]), (more[0], pairs[0], pairs[1]), (pairs[0], pairs[1], more[4])])
 
 
 # Rules in which facts need each other; the random ones give less.
