@@ -672,7 +672,7 @@ class ManyTest(DatabaseCase):
             self.session.commit()
         self.assertEqual(self.database.commits(), 405)
         self.assertEqual(self.session.run(("ask", (("count", "n", "a", (ANY,)),))), (("n",), [(100,)]))
-        self.assertLess(time.process_time() - start, 20)
+        self.assertLess(time.process_time() - start, 60)
 
 
 if __name__ == "__main__":

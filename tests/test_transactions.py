@@ -306,7 +306,7 @@ class ManyTest(unittest.TestCase):
             words.say(state, ("ask", (fact("p", X, Y),)))
             words.savepoint("s")
         self.assertEqual(words.again(state)[:2], (None, None))
-        self.assertLess(time.process_time() - start, 5)
+        self.assertLess(time.process_time() - start, 20)
 
 
 if __name__ == "__main__":
