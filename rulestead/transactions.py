@@ -48,7 +48,7 @@ def marks_until(marks, name):
     for at in reversed(range(len(marks))):
         if marks[at][0] == name:
             return marks[:at + 1]
-    raise NoSavepoint(name)
+    raise NoSavepoint("there is no mark of this name")
 
 
 def moved(own, marks, form, name):
